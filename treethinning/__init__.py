@@ -1,0 +1,1 @@
+"""Thinning: which trees of a young wood should be taken when."""
