@@ -23,6 +23,18 @@ def best():
     return call(3)
 
 
+def check(*times):
+    return call(4, *times)
+
+
+def keep(i):
+    return call(5, i)
+
+
+def when(i):
+    return call(6, i)
+
+
 def line(*calls):
     return [number for one in calls for number in one]
 

@@ -1,6 +1,6 @@
 """Thinnings, trees and plans: what keeps the rules, and what it is worth.
 
-A plan is a tuple with a time for each tree.
+A plan has a time for each tree, in their order.
 """
 
 
@@ -79,6 +79,26 @@ def enough_stay(thinnings, plan):
     return True
 
 
+def fault_behind(thinning, number, trees, plan):
+    """What is wrong behind this thinning: the first pair too near that stays, else how many stay; or nothing."""
+    for low, high in near_pairs(trees, thinning.gap):
+        if plan[low] > number and plan[high] > number:
+            return [low, high]
+    stay = how_many_stay(plan, number)
+    if stay < thinning.needed:
+        return [stay]
+    return []
+
+
+def first_fault(thinnings, trees, plan):
+    """The first thinning behind which something is wrong, then what; nothing if the plan keeps the rules."""
+    for number, thinning in enumerate(thinnings):
+        fault = fault_behind(thinning, number, trees, plan)
+        if len(fault) > 0:
+            return [number] + fault
+    return []
+
+
 def lawful_plans(thinnings, trees):
     """The plans that keep the rules, the earlier ones first."""
     return [plan for plan in spaced_plans(thinnings, trees) if enough_stay(thinnings, plan)]
@@ -103,3 +123,8 @@ def best_plans(trees, plans):
         if worth == most:
             best.append(plan)
     return best
+
+
+def plans_with_time(plans, number, time):
+    """Those of the plans in which the tree of this number has this time, in the order in which they were handed in."""
+    return [plan for plan in plans if plan[number] == time]

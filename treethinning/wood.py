@@ -1,16 +1,22 @@
 """A wood and the calls on it."""
 
-from treethinning.plans import Thinning, Tree, best_plans, lawful_plans, near_pairs, plan_worth
+from treethinning.plans import (
+    Thinning, Tree, best_plans, first_fault, lawful_plans, near_pairs, plan_worth, plans_with_time,
+)
 
 BEGINS = 0
 TREE = 1
 NEAR = 2
 BEST = 3
+CHECK = 4
+KEEP = 5
+WHEN = 6
 
 NOT_AS_TOLD = -1
 NO_SUCH_NUMBER = -2
+TREE_CANNOT_STAY = -3
 WOOD_IS_FULL = -5
-NO_LAWFUL_PLAN = -6
+RULES_NOT_KEPT = -6
 
 MOST_THINNINGS = 3
 MOST_TREES = 7
@@ -43,6 +49,15 @@ def tree_as_told(tree, thinnings):
         return False
     for worth in tree.worths:
         if worth > GREATEST_WORTH:
+            return False
+    return True
+
+
+def plan_as_told(plan, thinnings, trees):
+    if len(plan) != len(trees):
+        return False
+    for time in plan:
+        if time > len(thinnings):
             return False
     return True
 
@@ -81,8 +96,37 @@ class Wood:
     def best(self):
         best = best_plans(self.trees, lawful_plans(self.thinnings, self.trees))
         if len(best) == 0:
-            return [NO_LAWFUL_PLAN]
+            return [RULES_NOT_KEPT]
         return [plan_worth(self.trees, best[0]), len(best)] + list(best[0])
+
+    def check(self, plan):
+        if not plan_as_told(plan, self.thinnings, self.trees):
+            return [NOT_AS_TOLD]
+        fault = first_fault(self.thinnings, self.trees, plan)
+        if len(fault) > 0:
+            return [RULES_NOT_KEPT] + fault
+        return [plan_worth(self.trees, plan)]
+
+    def keep(self, number):
+        if number >= len(self.trees):
+            return [NO_SUCH_NUMBER]
+        plans = lawful_plans(self.thinnings, self.trees)
+        if len(plans) == 0:
+            return [RULES_NOT_KEPT]
+        kept = best_plans(self.trees, plans_with_time(plans, number, len(self.thinnings)))
+        if len(kept) == 0:
+            return [TREE_CANNOT_STAY]
+        most = plan_worth(self.trees, best_plans(self.trees, plans)[0])
+        return [most - plan_worth(self.trees, kept[0]), len(kept)] + list(kept[0])
+
+    def when(self, number):
+        if number >= len(self.trees):
+            return [NO_SUCH_NUMBER]
+        best = best_plans(self.trees, lawful_plans(self.thinnings, self.trees))
+        if len(best) == 0:
+            return [RULES_NOT_KEPT]
+        counts = [len(plans_with_time(best, number, time)) for time in range(len(self.thinnings) + 1)]
+        return [len(best)] + counts
 
 
 def answer_to(wood, call, numbers):
@@ -94,6 +138,12 @@ def answer_to(wood, call, numbers):
         return wood.near(numbers[0])
     if call == BEST:
         return wood.best()
+    if call == CHECK:
+        return wood.check(numbers)
+    if call == KEEP:
+        return wood.keep(numbers[0])
+    if call == WHEN:
+        return wood.when(numbers[0])
     raise UnknownCall(f"no call has the number {call}")
 
 
